@@ -9,6 +9,7 @@ import (
 func ways() map[string][]string {
 	return map[string][]string{
 		"ratio": {"variadic", "generic-function", "closure"},
+		"date":  {"constant-table", "array", "closure"},
 	}
 }
 
@@ -18,6 +19,8 @@ func features() map[string]func(function *ast.FuncDecl) bool {
 		"variadic":         isVariadic,
 		"generic-function": func(function *ast.FuncDecl) bool { return function.Type.TypeParams != nil },
 		"closure":          hasClosure,
+		"constant-table":   func(function *ast.FuncDecl) bool { return len(tables(function)) > 0 },
+		"array":            hasArray,
 	}
 }
 
@@ -48,6 +51,47 @@ func hasClosure(function *ast.FuncDecl) bool {
 			return true
 		})
 		return true
+	})
+	return found
+}
+
+// tables returns the tables of the package level that a function reads at an index.
+func tables(function *ast.FuncDecl) []*ast.CompositeLit {
+	var all []*ast.CompositeLit
+	ast.Inspect(function, func(node ast.Node) bool {
+		read, ok := node.(*ast.IndexExpr)
+		if !ok {
+			return true
+		}
+		name, ok := read.X.(*ast.Ident)
+		if !ok || name.Obj == nil || function.Pos() <= name.Obj.Pos() && name.Obj.Pos() < function.End() {
+			return true
+		}
+		if variable, ok := name.Obj.Decl.(*ast.ValueSpec); ok && len(variable.Values) == 1 {
+			if table, ok := variable.Values[0].(*ast.CompositeLit); ok {
+				all = append(all, table)
+			}
+		}
+		return true
+	})
+	return all
+}
+
+// isArray reports whether a node is the type of an array, not of a slice.
+func isArray(node ast.Node) bool {
+	array, ok := node.(*ast.ArrayType)
+	return ok && array.Len != nil
+}
+
+// hasArray reports whether a function has an array or reads one of the package level.
+func hasArray(function *ast.FuncDecl) bool {
+	found := false
+	for _, table := range tables(function) {
+		found = found || isArray(table.Type)
+	}
+	ast.Inspect(function, func(node ast.Node) bool {
+		found = found || isArray(node)
+		return !found
 	})
 	return found
 }
