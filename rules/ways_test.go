@@ -10,6 +10,7 @@ func ways() map[string][]string {
 	return map[string][]string{
 		"ratio": {"variadic", "generic-function", "closure"},
 		"date":  {"constant-table", "array", "closure"},
+		"zone":  {"range-function", "closure"},
 	}
 }
 
@@ -21,6 +22,7 @@ func features() map[string]func(function *ast.FuncDecl) bool {
 		"closure":          hasClosure,
 		"constant-table":   func(function *ast.FuncDecl) bool { return len(tables(function)) > 0 },
 		"array":            hasArray,
+		"range-function":   rangesFunction,
 	}
 }
 
@@ -94,6 +96,47 @@ func hasArray(function *ast.FuncDecl) bool {
 		return !found
 	})
 	return found
+}
+
+// rangesFunction reports whether a function ranges over an iterator function, which a function of the same file returns.
+func rangesFunction(function *ast.FuncDecl) bool {
+	found := false
+	ast.Inspect(function, func(node ast.Node) bool {
+		loop, ok := node.(*ast.RangeStmt)
+		found = found || ok && makesIterator(loop.X)
+		return !found
+	})
+	return found
+}
+
+// makesIterator reports whether an expression is a call of a function of the same file whose only result is an iterator function.
+func makesIterator(ranged ast.Expr) bool {
+	call, ok := ranged.(*ast.CallExpr)
+	if !ok {
+		return false
+	}
+	name, ok := call.Fun.(*ast.Ident)
+	if !ok || name.Obj == nil {
+		return false
+	}
+	called, ok := name.Obj.Decl.(*ast.FuncDecl)
+	return ok && called.Type.Results != nil && len(called.Type.Results.List) == 1 && isIterator(called.Type.Results.List[0].Type)
+}
+
+// isIterator reports whether an expression is the type of an iterator function, written out or as one of package iter.
+func isIterator(result ast.Expr) bool {
+	switch result := result.(type) {
+	case *ast.FuncType:
+		return true
+	case *ast.IndexExpr:
+		return isIterator(result.X)
+	case *ast.IndexListExpr:
+		return isIterator(result.X)
+	case *ast.SelectorExpr:
+		of, ok := result.X.(*ast.Ident)
+		return ok && of.Name == "iter"
+	}
+	return false
 }
 
 // uses reports whether a function of a package has a feature.
