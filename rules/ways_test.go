@@ -2,20 +2,22 @@ package rules
 
 import (
 	"go/ast"
+	"slices"
 	"testing"
 )
 
 // ways lists, for each layer that is built, the language features that it is built with.
 func ways() map[string][]string {
 	return map[string][]string{
-		"ratio": {"variadic", "generic-function", "closure"},
-		"date":  {"constant-table", "array", "closure"},
-		"zone":  {"range-function", "closure"},
+		"ratio":    {"variadic", "generic-function", "closure"},
+		"date":     {"constant-table", "array", "closure"},
+		"zone":     {"range-function", "closure"},
+		"quantity": {"method-value", "closure"},
 	}
 }
 
-// features lists how each feature is recognized in a function.
-func features() map[string]func(function *ast.FuncDecl) bool {
+// features lists how each feature is recognized in a function of a layer whose methods have some names.
+func features(methods []string) map[string]func(function *ast.FuncDecl) bool {
 	return map[string]func(function *ast.FuncDecl) bool{
 		"variadic":         isVariadic,
 		"generic-function": func(function *ast.FuncDecl) bool { return function.Type.TypeParams != nil },
@@ -23,7 +25,39 @@ func features() map[string]func(function *ast.FuncDecl) bool {
 		"constant-table":   func(function *ast.FuncDecl) bool { return len(tables(function)) > 0 },
 		"array":            hasArray,
 		"range-function":   rangesFunction,
+		"method-value":     func(function *ast.FuncDecl) bool { return hasMethodValue(function, methods) },
 	}
+}
+
+// methodNames returns the names of all methods of a layer.
+func methodNames(all []file, layer string) []string {
+	var names []string
+	for _, source := range all {
+		for _, declaration := range source.tree.Decls {
+			if function, ok := declaration.(*ast.FuncDecl); ok && source.folder == layer && function.Recv != nil {
+				names = append(names, function.Name.Name)
+			}
+		}
+	}
+	return names
+}
+
+// hasMethodValue reports whether a function uses a method of a variable without calling it there.
+func hasMethodValue(function *ast.FuncDecl, methods []string) bool {
+	called := map[ast.Expr]bool{}
+	found := false
+	ast.Inspect(function, func(node ast.Node) bool {
+		switch node := node.(type) {
+		case *ast.CallExpr:
+			called[node.Fun] = true
+		case *ast.SelectorExpr:
+			of, ok := node.X.(*ast.Ident)
+			variable := ok && of.Obj != nil && of.Obj.Kind == ast.Var
+			found = found || variable && !called[node] && slices.Contains(methods, node.Sel.Name)
+		}
+		return true
+	})
+	return found
 }
 
 // isVariadic reports whether a function takes any number of arguments.
@@ -155,8 +189,9 @@ func uses(all []file, layer string, feature func(function *ast.FuncDecl) bool) b
 }
 
 func TestWays(t *testing.T) {
-	all, known := sources(t), features()
+	all := sources(t)
 	for layer, names := range ways() {
+		known := features(methodNames(all, layer))
 		for _, name := range names {
 			feature, ok := known[name]
 			if !ok || !uses(all, layer, feature) {
