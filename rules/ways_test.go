@@ -13,6 +13,7 @@ func ways() map[string][]string {
 		"date":     {"constant-table", "array", "closure"},
 		"zone":     {"range-function", "closure"},
 		"quantity": {"method-value", "closure"},
+		"deadline": {"map", "function-field", "range-function"},
 	}
 }
 
@@ -26,7 +27,32 @@ func features(methods []string) map[string]func(function *ast.FuncDecl) bool {
 		"array":            hasArray,
 		"range-function":   rangesFunction,
 		"method-value":     func(function *ast.FuncDecl) bool { return hasMethodValue(function, methods) },
+		"map":              func(function *ast.FuncDecl) bool { return hasMap(function, func(*ast.MapType) bool { return true }) },
+		"function-field": func(function *ast.FuncDecl) bool {
+			return hasMap(function, func(found *ast.MapType) bool { return isFunction(found.Value) })
+		},
 	}
+}
+
+// hasMap reports whether a function has the type of a map for which a condition holds.
+func hasMap(function *ast.FuncDecl, holds func(found *ast.MapType) bool) bool {
+	found := false
+	ast.Inspect(function, func(node ast.Node) bool {
+		kind, ok := node.(*ast.MapType)
+		found = found || ok && holds(kind)
+		return !found
+	})
+	return found
+}
+
+// isFunction reports whether an expression is a type of functions, written out or declared in the same file.
+func isFunction(kind ast.Expr) bool {
+	if name, ok := kind.(*ast.Ident); ok && name.Obj != nil {
+		declared, ok := name.Obj.Decl.(*ast.TypeSpec)
+		return ok && isFunction(declared.Type)
+	}
+	_, ok := kind.(*ast.FuncType)
+	return ok
 }
 
 // methodNames returns the names of all methods of a layer.
