@@ -14,6 +14,7 @@ func ways() map[string][]string {
 		"zone":     {"range-function", "closure"},
 		"quantity": {"method-value", "closure"},
 		"deadline": {"map", "function-field", "range-function"},
+		"lexer":    {"panic", "recover", "defer", "closure"},
 	}
 }
 
@@ -31,7 +32,40 @@ func features(methods []string) map[string]func(function *ast.FuncDecl) bool {
 		"function-field": func(function *ast.FuncDecl) bool {
 			return hasMap(function, func(found *ast.MapType) bool { return isFunction(found.Value) })
 		},
+		"panic":   func(function *ast.FuncDecl) bool { return calls(function, "panic") },
+		"defer":   func(function *ast.FuncDecl) bool { return defers(function, func(*ast.CallExpr) bool { return true }) },
+		"recover": func(function *ast.FuncDecl) bool { return defers(function, recovers) },
 	}
+}
+
+// calls reports whether a built-in function is called in a node.
+func calls(node ast.Node, name string) bool {
+	found := false
+	ast.Inspect(node, func(node ast.Node) bool {
+		if call, ok := node.(*ast.CallExpr); ok {
+			called, ok := call.Fun.(*ast.Ident)
+			found = found || ok && called.Name == name && called.Obj == nil
+		}
+		return !found
+	})
+	return found
+}
+
+// defers reports whether a function defers a call for which a condition holds.
+func defers(function *ast.FuncDecl, holds func(call *ast.CallExpr) bool) bool {
+	found := false
+	ast.Inspect(function, func(node ast.Node) bool {
+		statement, ok := node.(*ast.DeferStmt)
+		found = found || ok && holds(statement.Call)
+		return !found
+	})
+	return found
+}
+
+// recovers reports whether a deferred call is that of a function literal that recovers.
+func recovers(call *ast.CallExpr) bool {
+	literal, ok := call.Fun.(*ast.FuncLit)
+	return ok && calls(literal.Body, "recover")
 }
 
 // hasMap reports whether a function has the type of a map for which a condition holds.
