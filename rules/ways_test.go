@@ -15,6 +15,7 @@ func ways() map[string][]string {
 		"quantity": {"method-value", "closure"},
 		"deadline": {"map", "function-field", "range-function"},
 		"lexer":    {"panic", "recover", "defer", "closure"},
+		"parser":   {"method-expression", "map", "variadic"},
 	}
 }
 
@@ -28,7 +29,10 @@ func features(methods []string) map[string]func(function *ast.FuncDecl) bool {
 		"array":            hasArray,
 		"range-function":   rangesFunction,
 		"method-value":     func(function *ast.FuncDecl) bool { return hasMethodValue(function, methods) },
-		"map":              func(function *ast.FuncDecl) bool { return hasMap(function, func(*ast.MapType) bool { return true }) },
+		"method-expression": func(function *ast.FuncDecl) bool {
+			return hasMethodExpression(function, methods)
+		},
+		"map": func(function *ast.FuncDecl) bool { return hasMap(function, func(*ast.MapType) bool { return true }) },
 		"function-field": func(function *ast.FuncDecl) bool {
 			return hasMap(function, func(found *ast.MapType) bool { return isFunction(found.Value) })
 		},
@@ -118,6 +122,31 @@ func hasMethodValue(function *ast.FuncDecl, methods []string) bool {
 		return true
 	})
 	return found
+}
+
+// hasMethodExpression reports whether a function uses a method of a type, or of the pointers to it, as a function.
+func hasMethodExpression(function *ast.FuncDecl, methods []string) bool {
+	found := false
+	ast.Inspect(function, func(node ast.Node) bool {
+		selector, ok := node.(*ast.SelectorExpr)
+		found = found || ok && namesType(selector.X) && slices.Contains(methods, selector.Sel.Name)
+		return !found
+	})
+	return found
+}
+
+// namesType reports whether an expression is the name of a type, or in parentheses a pointer to one, which can be declared in another file.
+func namesType(expression ast.Expr) bool {
+	if inner, ok := expression.(*ast.ParenExpr); ok {
+		pointer, ok := inner.X.(*ast.StarExpr)
+		if !ok {
+			return false
+		}
+		name, ok := pointer.X.(*ast.Ident)
+		return ok && (name.Obj == nil || name.Obj.Kind == ast.Typ)
+	}
+	name, ok := expression.(*ast.Ident)
+	return ok && name.Obj != nil && name.Obj.Kind == ast.Typ
 }
 
 // isVariadic reports whether a function takes any number of arguments.
