@@ -16,6 +16,7 @@ func ways() map[string][]string {
 		"deadline": {"map", "function-field", "range-function"},
 		"lexer":    {"panic", "recover", "defer", "closure"},
 		"parser":   {"method-expression", "map", "variadic"},
+		"printer":  {"method-expression", "map", "panic", "recover", "defer"},
 	}
 }
 
